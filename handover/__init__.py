@@ -1,0 +1,1 @@
+"""Processes that run beside one another and hand numbers over channels."""
